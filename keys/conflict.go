@@ -1,10 +1,13 @@
 package keys
 
-import "parvise/api"
+import (
+	"parvise/api"
+	"parvise/basic"
+)
 
 // Consistent reports whether the deeds that count do not contradict each other.
 func Consistent(l []api.Deed, known int) (bool, api.Errno) {
-	if e := first(Check(l), checkDays(known)); e != api.OK {
+	if e := basic.First(Check(l), basic.CheckDays(known)); e != api.OK {
 		return false, e
 	}
 	_, _, found := conflict(counting(l, known))
@@ -13,7 +16,7 @@ func Consistent(l []api.Deed, known int) (bool, api.Errno) {
 
 // Conflict returns the items of two deeds that contradict each other.
 func Conflict(l []api.Deed, known int) ([]api.Item, api.Errno) {
-	if e := first(Check(l), checkDays(known)); e != api.OK {
+	if e := basic.First(Check(l), basic.CheckDays(known)); e != api.OK {
 		return nil, e
 	}
 	earlier, later, found := conflict(counting(l, known))
@@ -25,7 +28,7 @@ func Conflict(l []api.Deed, known int) ([]api.Item, api.Errno) {
 
 // CheckConflict reports whether two deeds do.
 func CheckConflict(l []api.Deed, known int, by []api.Item) api.Errno {
-	if e := first(Check(l), checkDays(known)); e != api.OK {
+	if e := basic.First(Check(l), basic.CheckDays(known)); e != api.OK {
 		return e
 	}
 	if len(by) != 2 {
@@ -41,7 +44,7 @@ func CheckConflict(l []api.Deed, known int, by []api.Item) api.Errno {
 
 // When returns the days on which a deed may have been.
 func When(l []api.Deed, at api.Item, known int) (api.Range, api.Errno) {
-	if e := first(Check(l), checkDays(known)); e != api.OK {
+	if e := basic.First(Check(l), basic.CheckDays(known)); e != api.OK {
 		return api.Range{}, e
 	}
 	i := find(counting(l, known), at)
@@ -59,7 +62,7 @@ func When(l []api.Deed, at api.Item, known int) (api.Range, api.Errno) {
 
 // CheckTrue reports whether true days may be.
 func CheckTrue(l []api.Deed, known int, days []int) api.Errno {
-	if e := first(Check(l), checkDays(known)); e != api.OK {
+	if e := basic.First(Check(l), basic.CheckDays(known)); e != api.OK {
 		return e
 	}
 	if !areTrue(counting(l, known), days) {
@@ -111,7 +114,7 @@ func areTrue(count []api.Deed, days []int) bool {
 	last := map[name]int{}
 	for i, d := range count {
 		n := nameOf(d)
-		if !within(days[i], d.Day.Lo, d.Day.Hi) || days[i] < last[n] {
+		if !basic.Within(days[i], d.Day.Lo, d.Day.Hi) || days[i] < last[n] {
 			return false
 		}
 		last[n] = days[i]

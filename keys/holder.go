@@ -1,6 +1,9 @@
 package keys
 
-import "parvise/api"
+import (
+	"parvise/api"
+	"parvise/basic"
+)
 
 // Holders returns who may hold the key of a lock on a day.
 func Holders(l []api.Deed, lock, day, known int) ([]int, api.Errno) {
@@ -24,7 +27,7 @@ func Has(l []api.Deed, lock, person, day, known int) (int, api.Errno) {
 
 // InOffice answers whether a person is in office.
 func InOffice(l []api.Deed, person, day, known int) (int, api.Errno) {
-	if e := first(Check(l), checkPerson(person), checkDays(day, known)); e != api.OK {
+	if e := basic.First(Check(l), checkPerson(person), basic.CheckDays(day, known)); e != api.OK {
 		return 0, e
 	}
 	count, e := even(l, known)
@@ -36,7 +39,7 @@ func InOffice(l []api.Deed, person, day, known int) (int, api.Errno) {
 
 // Wardens returns the persons who surely are.
 func Wardens(l []api.Deed, day, known int) ([]int, api.Errno) {
-	if e := first(Check(l), checkDays(day, known)); e != api.OK {
+	if e := basic.First(Check(l), basic.CheckDays(day, known)); e != api.OK {
 		return nil, e
 	}
 	count, e := even(l, known)
@@ -56,7 +59,7 @@ func inOffice(s state) bool { return s.office }
 
 // whoMay returns who it may be of a lock's states on a day.
 func whoMay(l []api.Deed, lock, day, known int, who func(state) int) ([]int, api.Errno) {
-	if e := first(Check(l), checkLock(lock), checkDays(day, known)); e != api.OK {
+	if e := basic.First(Check(l), checkLock(lock), basic.CheckDays(day, known)); e != api.OK {
 		return nil, e
 	}
 	count, e := even(l, known)
@@ -72,7 +75,7 @@ func whoMay(l []api.Deed, lock, day, known int, who func(state) int) ([]int, api
 
 // askLock answers whether something is so of a lock and a person on a day.
 func askLock(l []api.Deed, lock, person, day, known int, is func(state) bool) (int, api.Errno) {
-	if e := first(Check(l), checkLock(lock), checkPerson(person), checkDays(day, known)); e != api.OK {
+	if e := basic.First(Check(l), checkLock(lock), checkPerson(person), basic.CheckDays(day, known)); e != api.OK {
 		return 0, e
 	}
 	count, e := even(l, known)

@@ -7,14 +7,12 @@ import (
 	"slices"
 
 	"parvise/api"
+	"parvise/basic"
 )
 
 // CheckDeed reports whether a deed is valid.
 func CheckDeed(d api.Deed) api.Errno {
-	if validItem(d.At) && validSubject(d) && validDays(d) {
-		return api.OK
-	}
-	return api.ErrDeed
+	return basic.Verdict(validItem(d.At) && validSubject(d) && validDays(d), api.ErrDeed)
 }
 
 // Check reports whether deeds are valid.
@@ -76,29 +74,25 @@ func Dates(l []api.Deed) ([]int, api.Errno) {
 }
 
 func validItem(at api.Item) bool {
-	return within(at.Parish, 0, api.MaxParishes-1) && within(at.No, 0, api.MaxNo)
+	return basic.Within(at.Parish, 0, api.MaxParishes-1) && basic.Within(at.No, 0, api.MaxNo)
 }
 
 // validSubject reports whether a deed names the lock and the person that its kind needs, and no other.
 func validSubject(d api.Deed) bool {
 	switch d.Kind {
 	case api.DeSworn, api.DeLeft:
-		return d.Lock == 0 && within(d.Person, 1, api.MaxPerson)
+		return d.Lock == 0 && basic.Within(d.Person, 1, api.MaxPerson)
 	case api.DeGiven, api.DeLent:
-		return within(d.Lock, 1, api.MaxLocks) && within(d.Person, 1, api.MaxPerson)
+		return basic.Within(d.Lock, 1, api.MaxLocks) && basic.Within(d.Person, 1, api.MaxPerson)
 	case api.DeBack, api.DeLost:
-		return within(d.Lock, 1, api.MaxLocks) && d.Person == 0
+		return basic.Within(d.Lock, 1, api.MaxLocks) && d.Person == 0
 	}
 	return false
 }
 
 func validDays(d api.Deed) bool {
-	return within(d.Day.Lo, 0, d.Day.Hi) && d.Day.Hi <= api.MaxDay &&
-		within(d.Known, 0, api.MaxDay) &&
-		(d.Until == 0 || within(d.Until, d.Known+1, api.MaxDay))
+	return basic.AreDays(d.Day) && basic.AreTimes(d.Known, d.Until)
 }
-
-func within(n, lo, hi int) bool { return lo <= n && n <= hi }
 
 // byItem orders deeds by their items.
 func byItem(a, b api.Deed) int {
@@ -114,23 +108,12 @@ func insert[N cmp.Ordered](l []N, n N) []N {
 	return slices.Insert(l, at, n)
 }
 
-// first returns the first error that is one.
-func first(errors ...api.Errno) api.Errno {
-	return cmp.Or(errors...)
-}
-
 func checkLock(lock int) api.Errno {
-	if !within(lock, 1, api.MaxLocks) {
-		return api.ErrLock
-	}
-	return api.OK
+	return basic.Verdict(basic.Within(lock, 1, api.MaxLocks), api.ErrLock)
 }
 
 func checkPerson(person int) api.Errno {
-	if !within(person, 1, api.MaxPerson) {
-		return api.ErrPersons
-	}
-	return api.OK
+	return basic.Verdict(basic.Within(person, 1, api.MaxPerson), api.ErrPersons)
 }
 
 func checkPersons(l []int) api.Errno {
@@ -140,15 +123,6 @@ func checkPersons(l []int) api.Errno {
 	for i, person := range l {
 		if checkPerson(person) != api.OK || i > 0 && l[i-1] >= person {
 			return api.ErrPersons
-		}
-	}
-	return api.OK
-}
-
-func checkDays(days ...int) api.Errno {
-	for _, day := range days {
-		if !within(day, 0, api.MaxDay) {
-			return api.ErrDay
 		}
 	}
 	return api.OK

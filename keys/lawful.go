@@ -5,6 +5,7 @@ import (
 	"slices"
 
 	"parvise/api"
+	"parvise/basic"
 )
 
 // scene is a state of each lock, and how many deeds of its thread have happened.
@@ -24,12 +25,12 @@ func Lawful(l []api.Deed, persons []int, day, known int) (int, api.Errno) {
 	}
 	_, can := witness(count, persons, day, true)
 	_, cannot := witness(count, persons, day, false)
-	return answer(can, cannot), api.OK
+	return basic.Answer(can, cannot), api.OK
 }
 
 // True reports whether it is, if days are true.
 func True(l []api.Deed, persons, days []int, day, known int) (bool, api.Errno) {
-	if e := first(Check(l), checkPersons(persons), checkDays(day, known)); e != api.OK {
+	if e := basic.First(Check(l), checkPersons(persons), basic.CheckDays(day, known)); e != api.OK {
 		return false, e
 	}
 	count := counting(l, known)
@@ -95,7 +96,7 @@ func Openers(l []api.Deed, day, known int) ([]int, api.Errno) {
 
 // checkOpening returns the deeds that count, or the first error of a question about an opening.
 func checkOpening(l []api.Deed, persons []int, day, known int) ([]api.Deed, api.Errno) {
-	if e := first(Check(l), checkPersons(persons), checkDays(day, known)); e != api.OK {
+	if e := basic.First(Check(l), checkPersons(persons), basic.CheckDays(day, known)); e != api.OK {
 		return nil, e
 	}
 	return even(l, known)

@@ -4,6 +4,7 @@ import (
 	"slices"
 
 	"parvise/api"
+	"parvise/basic"
 )
 
 // view is deeds, as known on a day.
@@ -14,7 +15,7 @@ type view struct {
 
 // Changed returns the locks of which something else is known later.
 func Changed(l []api.Deed, day, known, later int) ([]int, api.Errno) {
-	if e := first(Check(l), checkDays(day, known, later)); e != api.OK {
+	if e := basic.First(Check(l), basic.CheckDays(day, known, later)); e != api.OK {
 		return nil, e
 	}
 	return view{l, known}.differing(view{l, later}, day), api.OK
@@ -22,7 +23,7 @@ func Changed(l []api.Deed, day, known, later int) ([]int, api.Errno) {
 
 // Moved returns the locks of which something else would be known without a deed.
 func Moved(l []api.Deed, at api.Item, day, known int) ([]int, api.Errno) {
-	if e := first(Check(l), checkDays(day, known)); e != api.OK {
+	if e := basic.First(Check(l), basic.CheckDays(day, known)); e != api.OK {
 		return nil, e
 	}
 	i := find(l, at)

@@ -4,6 +4,7 @@ import (
 	"iter"
 
 	"parvise/api"
+	"parvise/basic"
 )
 
 // name tells threads apart: a lock's names no person, a person's no lock.
@@ -33,7 +34,7 @@ func nameOf(d api.Deed) name {
 func counting(l []api.Deed, known int) []api.Deed {
 	var count []api.Deed
 	for _, d := range l {
-		if d.Known <= known && (d.Until == 0 || d.Until > known) {
+		if basic.Counts(d.Known, d.Until, known) {
 			count = append(count, d)
 		}
 	}
@@ -127,7 +128,7 @@ func (t thread) ask(day int, is func(state) bool) int {
 			cannot = true
 		}
 	}
-	return answer(can, cannot)
+	return basic.Answer(can, cannot)
 }
 
 // effects returns what a deed of each kind makes of a state.
@@ -173,14 +174,4 @@ func (s state) back(int) state {
 func (s state) lost(int) state {
 	s.holder, s.hand = 0, 0
 	return s
-}
-
-func answer(can, cannot bool) int {
-	switch {
-	case can && cannot:
-		return api.Maybe
-	case can:
-		return api.Yes
-	}
-	return api.No
 }

@@ -1,0 +1,55 @@
+// Package basic is what all layers need: days, times, answers, and which of several errors is due.
+package basic
+
+import (
+	"cmp"
+	"slices"
+
+	"parvise/api"
+)
+
+// Within reports whether a number is from lo to hi.
+func Within(n, lo, hi int) bool { return lo <= n && n <= hi }
+
+// IsDay reports whether a number is a day.
+func IsDay(day int) bool { return Within(day, 0, api.MaxDay) }
+
+// AreDays reports whether a range is one of days.
+func AreDays(r api.Range) bool { return Within(r.Lo, 0, r.Hi) && IsDay(r.Hi) }
+
+// AreTimes reports whether Known and Until are times.
+func AreTimes(known, until int) bool {
+	return IsDay(known) && (until == 0 || Within(until, known+1, api.MaxDay))
+}
+
+// Counts reports whether what has these times counts, as known on a day.
+func Counts(known, until, day int) bool {
+	return known <= day && (until == 0 || until > day)
+}
+
+// First returns the first error that is one.
+func First(errors ...api.Errno) api.Errno { return cmp.Or(errors...) }
+
+// Verdict is OK if something is so, and otherwise an error.
+func Verdict(ok bool, e api.Errno) api.Errno {
+	if ok {
+		return api.OK
+	}
+	return e
+}
+
+// CheckDays returns ErrDay if one of the days is none.
+func CheckDays(days ...int) api.Errno {
+	return Verdict(!slices.ContainsFunc(days, func(day int) bool { return !IsDay(day) }), api.ErrDay)
+}
+
+// Answer tells of something that may be so, or may not be so, or both.
+func Answer(can, cannot bool) int {
+	switch {
+	case can && cannot:
+		return api.Maybe
+	case can:
+		return api.Yes
+	}
+	return api.No
+}

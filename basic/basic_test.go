@@ -1,0 +1,64 @@
+package basic_test
+
+import (
+	"testing"
+
+	"parvise/api"
+	"parvise/basic"
+)
+
+func TestTimes(t *testing.T) {
+	for _, c := range []struct {
+		known, until int
+		times        bool
+	}{
+		{0, 0, true}, {0, 1, true}, {api.MaxDay, 0, true}, {api.MaxDay - 1, api.MaxDay, true}, {5, 6, true},
+		{-1, 0, false}, {api.MaxDay + 1, 0, false}, {5, 5, false}, {5, 4, false}, {0, -1, false}, {api.MaxDay, api.MaxDay + 1, false},
+	} {
+		if basic.AreTimes(c.known, c.until) != c.times {
+			t.Errorf("AreTimes(%d, %d): expected %v", c.known, c.until, c.times)
+		}
+	}
+}
+
+func TestDays(t *testing.T) {
+	for _, c := range []struct {
+		lo, hi int
+		days   bool
+	}{{0, 0, true}, {0, api.MaxDay, true}, {4, 4, true}, {4, 3, false}, {-1, 3, false}, {0, api.MaxDay + 1, false}, {api.MaxDay + 1, api.MaxDay + 1, false}} {
+		if basic.AreDays(api.Range{Lo: c.lo, Hi: c.hi}) != c.days {
+			t.Errorf("AreDays(%d to %d): expected %v", c.lo, c.hi, c.days)
+		}
+	}
+	if e := basic.CheckDays(0, api.MaxDay); e != api.OK {
+		t.Errorf("CheckDays = %v", e)
+	}
+	for _, day := range []int{-1, api.MaxDay + 1} {
+		if e := basic.CheckDays(0, day); e != api.ErrDay {
+			t.Errorf("CheckDays(%d) = %v; expected ErrDay", day, e)
+		}
+	}
+}
+
+func TestCounts(t *testing.T) {
+	for _, c := range []struct {
+		known, until, day int
+		counts            bool
+	}{{5, 0, 4, false}, {5, 0, 5, true}, {5, 0, 9, true}, {5, 7, 4, false}, {5, 7, 6, true}, {5, 7, 7, false}} {
+		if basic.Counts(c.known, c.until, c.day) != c.counts {
+			t.Errorf("Counts(%d, %d, %d): expected %v", c.known, c.until, c.day, c.counts)
+		}
+	}
+}
+
+func TestAnswers(t *testing.T) {
+	if basic.Answer(true, false) != api.Yes || basic.Answer(false, true) != api.No || basic.Answer(true, true) != api.Maybe {
+		t.Error("Answer")
+	}
+	if basic.First(api.OK, api.ErrDay, api.ErrArg) != api.ErrDay || basic.First(api.OK) != api.OK || basic.First() != api.OK {
+		t.Error("First")
+	}
+	if basic.Verdict(true, api.ErrArg) != api.OK || basic.Verdict(false, api.ErrArg) != api.ErrArg {
+		t.Error("Verdict")
+	}
+}
