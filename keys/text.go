@@ -1,11 +1,10 @@
 package keys
 
 import (
-	"iter"
-	"strconv"
 	"strings"
 
 	"parvise/api"
+	"parvise/basic"
 )
 
 const (
@@ -24,12 +23,7 @@ func Print(l []api.Deed) (string, api.Errno) {
 	}
 	var text strings.Builder
 	for _, d := range l {
-		text.WriteString(deedWord)
-		for _, n := range [deedNumbers]int{d.At.Parish, d.At.No, d.Kind, d.Lock, d.Person, d.Day.Lo, d.Day.Hi, d.Known, d.Until} {
-			text.WriteByte(' ')
-			text.WriteString(strconv.Itoa(n))
-		}
-		text.WriteByte('\n')
+		text.WriteString(basic.Line(deedWord, d.At.Parish, d.At.No, d.Kind, d.Lock, d.Person, d.Day.Lo, d.Day.Hi, d.Known, d.Until))
 	}
 	return text.String(), api.OK
 }
@@ -56,35 +50,16 @@ func read(text string) (l []api.Deed, wrong int) {
 			l, wrong = nil, int(line)
 		}
 	}()
-	for line, words := range spoken(text) {
+	for line, words := range basic.Spoken(text) {
 		l = append(l, deedOf(line, words))
 	}
 	return l, 0
 }
 
-// spoken yields the number and the words of each line that says something.
-func spoken(text string) iter.Seq2[int, []string] {
-	return func(yield func(int, []string) bool) {
-		for i, line := range strings.Split(text, "\n") {
-			// Not strings.Fields: only spaces part words.
-			words := strings.FieldsFunc(line, func(r rune) bool { return r == ' ' })
-			if len(words) == 0 || line[0] == '#' {
-				continue
-			}
-			if !yield(i+1, words) {
-				return
-			}
-		}
-	}
-}
-
 func deedOf(line int, words []string) api.Deed {
-	if len(words) != 1+deedNumbers || words[0] != deedWord {
+	n, ok := basic.Numbers(words[1:], maxDigits)
+	if !ok || len(n) != deedNumbers || words[0] != deedWord {
 		panic(wrongLine(line))
-	}
-	var n [deedNumbers]int
-	for i, word := range words[1:] {
-		n[i] = numberOf(line, word)
 	}
 	return api.Deed{
 		At:   api.Item{Parish: n[0], No: n[1]},
@@ -92,18 +67,4 @@ func deedOf(line int, words []string) api.Deed {
 		Day:   api.Range{Lo: n[5], Hi: n[6]},
 		Known: n[7], Until: n[8],
 	}
-}
-
-func numberOf(line int, word string) int {
-	if len(word) > maxDigits || len(word) > 1 && word[0] == '0' {
-		panic(wrongLine(line))
-	}
-	n := 0
-	for _, b := range []byte(word) {
-		if b < '0' || b > '9' {
-			panic(wrongLine(line))
-		}
-		n = 10*n + int(b-'0')
-	}
-	return n
 }

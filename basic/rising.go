@@ -1,0 +1,11 @@
+package basic
+
+// AreRising reports whether each element of a list is ahead of the next one.
+func AreRising[T any](l []T, compare func(a, b T) int) bool {
+	for i := range l {
+		if i > 0 && compare(l[i-1], l[i]) >= 0 {
+			return false
+		}
+	}
+	return true
+}

@@ -1,0 +1,75 @@
+package basic_test
+
+import (
+	"cmp"
+	"slices"
+	"strings"
+	"testing"
+
+	"parvise/basic"
+)
+
+func TestSpoken(t *testing.T) {
+	var got []string
+	for line, words := range basic.Spoken("#a\n  one  two \n\n \n # three\nfo\tur\r\n#") {
+		got = append(got, basic.Line(strings.Join(words, "|"), line))
+	}
+	if want := []string{"one|two 2\n", "#|three 5\n", "fo\tur\r 6\n"}; !slices.Equal(got, want) {
+		t.Errorf("Spoken: %q; expected %q", got, want)
+	}
+	for range basic.Spoken("one\ntwo\n") {
+		break
+	}
+	for text := range map[string]bool{"": true, "\n": true, "#": true, " \n#\n": true} {
+		for line, words := range basic.Spoken(text) {
+			t.Errorf("Spoken %q: %d %q", text, line, words)
+		}
+	}
+}
+
+func TestLines(t *testing.T) {
+	for text, want := range map[string]int{"": 0, "\n": 1, "a": 1, "a\n": 1, "a\nb": 2, "\n\n": 2, "\n ": 2} {
+		if n := basic.Lines(text); n != want {
+			t.Errorf("Lines %q = %d; expected %d", text, n, want)
+		}
+	}
+}
+
+func TestNumbers(t *testing.T) {
+	for word, want := range map[string]int{"0": 0, "7": 7, "10": 10, "999": 999} {
+		if n, ok := basic.Number(word, 3); n != want || !ok {
+			t.Errorf("Number %q = %d, %v", word, n, ok)
+		}
+	}
+	for _, word := range []string{"", "00", "01", "1000", "-1", "-0", "+1", "x", "1x", "0x1", "1_0", "1.", " 1", "\u0663"} {
+		if n, ok := basic.Number(word, 3); n != 0 || ok {
+			t.Errorf("Number %q = %d, %v", word, n, ok)
+		}
+		if l, ok := basic.Numbers([]string{"1", word}, 3); l != nil || ok {
+			t.Errorf("Numbers 1, %q = %v, %v", word, l, ok)
+		}
+	}
+	if l, ok := basic.Numbers([]string{"1", "20"}, 2); !slices.Equal(l, []int{1, 20}) || !ok {
+		t.Errorf("Numbers = %v, %v", l, ok)
+	}
+	if l, ok := basic.Numbers(nil, 2); len(l) != 0 || !ok {
+		t.Errorf("Numbers of none = %v, %v", l, ok)
+	}
+	if line := basic.Line("a", 0, 10, -1); line != "a 0 10 -1\n" {
+		t.Errorf("Line = %q", line)
+	}
+	if line := basic.Line("a"); line != "a\n" {
+		t.Errorf("Line = %q", line)
+	}
+}
+
+func TestAreRising(t *testing.T) {
+	for _, c := range []struct {
+		l  []int
+		is bool
+	}{{nil, true}, {[]int{3}, true}, {[]int{1, 3}, true}, {[]int{3, 3}, false}, {[]int{1, 3, 2}, false}} {
+		if basic.AreRising(c.l, cmp.Compare) != c.is {
+			t.Errorf("AreRising %v: expected %v", c.l, c.is)
+		}
+	}
+}
