@@ -3,7 +3,6 @@ package basic
 
 import (
 	"cmp"
-	"slices"
 
 	"parvise/api"
 )
@@ -40,7 +39,7 @@ func Verdict(ok bool, e api.Errno) api.Errno {
 
 // CheckDays returns ErrDay if one of the days is none.
 func CheckDays(days ...int) api.Errno {
-	return Verdict(!slices.ContainsFunc(days, func(day int) bool { return !IsDay(day) }), api.ErrDay)
+	return Verdict(AreAll(days, IsDay), api.ErrDay)
 }
 
 // Answer tells of something that may be so, or may not be so, or both.

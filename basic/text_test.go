@@ -1,7 +1,6 @@
 package basic_test
 
 import (
-	"cmp"
 	"slices"
 	"strings"
 	"testing"
@@ -60,16 +59,5 @@ func TestNumbers(t *testing.T) {
 	}
 	if line := basic.Line("a"); line != "a\n" {
 		t.Errorf("Line = %q", line)
-	}
-}
-
-func TestAreRising(t *testing.T) {
-	for _, c := range []struct {
-		l  []int
-		is bool
-	}{{nil, true}, {[]int{3}, true}, {[]int{1, 3}, true}, {[]int{3, 3}, false}, {[]int{1, 3, 2}, false}} {
-		if basic.AreRising(c.l, cmp.Compare) != c.is {
-			t.Errorf("AreRising %v: expected %v", c.l, c.is)
-		}
 	}
 }

@@ -37,7 +37,7 @@ func CheckProof(s api.Stem, l []api.Weight, cost int) api.Errno {
 func bySet(a, b api.Weight) int { return cmp.Compare(a.Set, b.Set) }
 
 func (v view) areWeights(l []api.Weight) bool {
-	return len(l) <= api.MaxSets && basic.AreRising(l, bySet) && areAll(l, func(w api.Weight) bool {
+	return len(l) <= api.MaxSets && basic.AreRising(l, bySet) && basic.AreAll(l, func(w api.Weight) bool {
 		return basic.Within(w.Set, 1, int(v.all())) && basic.Within(w.Weight, 1, api.RootCost)
 	})
 }

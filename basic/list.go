@@ -1,5 +1,12 @@
 package basic
 
+import "slices"
+
+// AreAll reports whether something is so of each element of a list.
+func AreAll[T any](l []T, is func(T) bool) bool {
+	return !slices.ContainsFunc(l, func(v T) bool { return !is(v) })
+}
+
 // AreRising reports whether each element of a list is ahead of the next one.
 func AreRising[T any](l []T, compare func(a, b T) int) bool {
 	for i := range l {
