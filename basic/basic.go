@@ -1,4 +1,4 @@
-// Package basic is what all layers need: days, times, answers, and which of several errors is due.
+// Package basic is what all layers need: sources, papers, days, times, answers, and which of several errors is due.
 package basic
 
 import (
@@ -9,6 +9,12 @@ import (
 
 // Within reports whether a number is from lo to hi.
 func Within(n, lo, hi int) bool { return lo <= n && n <= hi }
+
+// IsSource reports whether a number is a source.
+func IsSource(n int) bool { return Within(n, 1, api.MaxSource) }
+
+// IsPaper reports whether a number is a paper.
+func IsPaper(n int) bool { return Within(n, 1, api.MaxPaper) }
 
 // IsDay reports whether a number is a day.
 func IsDay(day int) bool { return Within(day, 0, api.MaxDay) }
@@ -41,6 +47,9 @@ func Verdict(ok bool, e api.Errno) api.Errno {
 func CheckDays(days ...int) api.Errno {
 	return Verdict(AreAll(days, IsDay), api.ErrDay)
 }
+
+// CheckPaper returns ErrArg if a number is no paper.
+func CheckPaper(n int) api.Errno { return Verdict(IsPaper(n), api.ErrArg) }
 
 // Answer tells of something that may be so, or may not be so, or both.
 func Answer(can, cannot bool) int {

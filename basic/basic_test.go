@@ -40,6 +40,19 @@ func TestDays(t *testing.T) {
 	}
 }
 
+func TestNames(t *testing.T) {
+	for n, is := range map[int]bool{1: true, 500: true, api.MaxPaper: true, 0: false, -1: false, api.MaxPaper + 1: false} {
+		if basic.IsPaper(n) != is || basic.CheckPaper(n) != basic.Verdict(is, api.ErrArg) {
+			t.Errorf("the paper %d: expected %v", n, is)
+		}
+	}
+	for n, is := range map[int]bool{1: true, 500: true, api.MaxSource: true, 0: false, -1: false, api.MaxSource + 1: false} {
+		if basic.IsSource(n) != is {
+			t.Errorf("the source %d: expected %v", n, is)
+		}
+	}
+}
+
 func TestCounts(t *testing.T) {
 	for _, c := range []struct {
 		known, until, day int

@@ -16,3 +16,15 @@ func AreRising[T any](l []T, compare func(a, b T) int) bool {
 	}
 	return true
 }
+
+// Share reports whether something is in both lists.
+func Share[T comparable](l, other []T) bool {
+	return slices.ContainsFunc(l, func(v T) bool { return slices.Contains(other, v) })
+}
+
+// Rising returns numbers in order, each once.
+func Rising(l ...int) []int {
+	l = slices.Clone(l)
+	slices.Sort(l)
+	return slices.Compact(l)
+}

@@ -2,6 +2,7 @@ package basic_test
 
 import (
 	"cmp"
+	"slices"
 	"testing"
 
 	"parvise/basic"
@@ -25,6 +26,26 @@ func TestAreRising(t *testing.T) {
 	}{{nil, true}, {[]int{3}, true}, {[]int{1, 3}, true}, {[]int{3, 3}, false}, {[]int{1, 3, 2}, false}} {
 		if basic.AreRising(c.l, cmp.Compare) != c.is {
 			t.Errorf("AreRising %v: expected %v", c.l, c.is)
+		}
+	}
+}
+
+func TestShare(t *testing.T) {
+	for _, c := range []struct {
+		l, other []int
+		share    bool
+	}{{nil, nil, false}, {[]int{1}, nil, false}, {[]int{1, 2}, []int{3, 4}, false}, {[]int{1, 2}, []int{2, 3}, true}, {[]int{1, 2}, []int{3, 1}, true}, {[]int{5}, []int{5}, true}} {
+		if basic.Share(c.l, c.other) != c.share || basic.Share(c.other, c.l) != c.share {
+			t.Errorf("Share %v, %v: expected %v", c.l, c.other, c.share)
+		}
+	}
+}
+
+func TestRising(t *testing.T) {
+	for _, c := range []struct{ l, want []int }{{nil, nil}, {[]int{3}, []int{3}}, {[]int{3, 1, 3, -2, 1}, []int{-2, 1, 3}}, {[]int{1, 2}, []int{1, 2}}} {
+		l := slices.Clone(c.l)
+		if got := basic.Rising(l...); !slices.Equal(got, c.want) || !slices.Equal(l, c.l) {
+			t.Errorf("Rising %v = %v; %v is left", c.l, got, l)
 		}
 	}
 }

@@ -59,12 +59,15 @@ func Numbers(words []string, digits int) ([]int, bool) {
 	return all, true
 }
 
-// Line returns the line of a word and numbers.
-func Line(word string, numbers ...int) string {
-	line := []byte(word)
+// Phrase returns a word and numbers, with a space between any two.
+func Phrase(word string, numbers ...int) string {
+	phrase := []byte(word)
 	for _, n := range numbers {
-		line = append(line, ' ')
-		line = strconv.AppendInt(line, int64(n), 10)
+		phrase = append(phrase, ' ')
+		phrase = strconv.AppendInt(phrase, int64(n), 10)
 	}
-	return string(line) + "\n"
+	return string(phrase)
 }
+
+// Line returns the line of a word and numbers.
+func Line(word string, numbers ...int) string { return Phrase(word, numbers...) + "\n" }

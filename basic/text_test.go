@@ -60,4 +60,7 @@ func TestNumbers(t *testing.T) {
 	if line := basic.Line("a"); line != "a\n" {
 		t.Errorf("Line = %q", line)
 	}
+	if phrase := basic.Phrase("a", 0, 10, -1) + basic.Phrase("b"); phrase != "a 0 10 -1b" {
+		t.Errorf("Phrase = %q", phrase)
+	}
 }

@@ -91,7 +91,7 @@ func pileOf(h api.Heap, paper int) pile {
 
 // open returns the pile of a paper, or the first error.
 func open(h api.Heap, paper int) (pile, api.Errno) {
-	if e := basic.First(Check(h), checkPaper(paper)); e != api.OK {
+	if e := basic.First(Check(h), basic.CheckPaper(paper)); e != api.OK {
 		return pile{}, e
 	}
 	return pileOf(h, paper), api.OK
