@@ -87,6 +87,7 @@ func TestP61Dates(t *testing.T) {
 	l := example()
 	l[0].Until, l[1].Known, l[1].Until, l[3].Known, l[3].Until = 20, 30, 31, 9, api.MaxDay
 	expect(t, "Dates with ends", results(chest.Dates(l)), []int{0, 8, 9, 20, 30, 31, api.MaxDay}, api.OK)
+	expect(t, "Dates without the day 0", results(chest.Dates(example()[2:3])), []int{8}, api.OK)
 }
 
 // TestP61Contradict is about two openings alone.
