@@ -1,4 +1,4 @@
-// Package basic is what all layers need: sources, papers, days, times, answers, and which of several errors is due.
+// Package basic is what all layers need: sources, persons, papers, days, times, answers, and which of several errors is due.
 package basic
 
 import (
@@ -12,6 +12,9 @@ func Within(n, lo, hi int) bool { return lo <= n && n <= hi }
 
 // IsSource reports whether a number is a source.
 func IsSource(n int) bool { return Within(n, 1, api.MaxSource) }
+
+// IsPerson reports whether a number is a person.
+func IsPerson(n int) bool { return Within(n, 1, api.MaxPerson) }
 
 // IsPaper reports whether a number is a paper.
 func IsPaper(n int) bool { return Within(n, 1, api.MaxPaper) }

@@ -46,6 +46,11 @@ func TestNames(t *testing.T) {
 			t.Errorf("the paper %d: expected %v", n, is)
 		}
 	}
+	for n, is := range map[int]bool{1: true, 50: true, api.MaxPerson: true, 0: false, -1: false, api.MaxPerson + 1: false} {
+		if basic.IsPerson(n) != is {
+			t.Errorf("the person %d: expected %v", n, is)
+		}
+	}
 	for n, is := range map[int]bool{1: true, 500: true, api.MaxSource: true, 0: false, -1: false, api.MaxSource + 1: false} {
 		if basic.IsSource(n) != is {
 			t.Errorf("the source %d: expected %v", n, is)

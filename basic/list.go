@@ -28,3 +28,16 @@ func Rising(l ...int) []int {
 	slices.Sort(l)
 	return slices.Compact(l)
 }
+
+// Dates returns the days on which something of a list becomes known, or ends, rising, each once.
+func Dates[T any](l []T, times func(T) (known, until int)) []int {
+	var dates []int
+	for _, v := range l {
+		known, until := times(v)
+		dates = append(dates, known)
+		if until != 0 {
+			dates = append(dates, until)
+		}
+	}
+	return Rising(dates...)
+}

@@ -49,3 +49,14 @@ func TestRising(t *testing.T) {
 		}
 	}
 }
+
+func TestDates(t *testing.T) {
+	for _, c := range []struct {
+		l    [][2]int
+		want []int
+	}{{nil, nil}, {[][2]int{{0, 0}}, []int{0}}, {[][2]int{{5, 0}}, []int{5}}, {[][2]int{{5, 9}, {0, 5}, {7, 8}, {5, 0}}, []int{0, 5, 7, 8, 9}}} {
+		if got := basic.Dates(c.l, func(v [2]int) (int, int) { return v[0], v[1] }); !slices.Equal(got, c.want) {
+			t.Errorf("Dates %v = %v", c.l, got)
+		}
+	}
+}

@@ -63,14 +63,7 @@ func Dates(l []api.Deed) ([]int, api.Errno) {
 	if e := Check(l); e != api.OK {
 		return nil, e
 	}
-	var dates []int
-	for _, d := range l {
-		dates = insert(dates, d.Known)
-		if d.Until != 0 {
-			dates = insert(dates, d.Until)
-		}
-	}
-	return dates, api.OK
+	return basic.Dates(l, func(d api.Deed) (int, int) { return d.Known, d.Until }), api.OK
 }
 
 func validItem(at api.Item) bool {
@@ -81,9 +74,9 @@ func validItem(at api.Item) bool {
 func validSubject(d api.Deed) bool {
 	switch d.Kind {
 	case api.DeSworn, api.DeLeft:
-		return d.Lock == 0 && basic.Within(d.Person, 1, api.MaxPerson)
+		return d.Lock == 0 && basic.IsPerson(d.Person)
 	case api.DeGiven, api.DeLent:
-		return basic.Within(d.Lock, 1, api.MaxLocks) && basic.Within(d.Person, 1, api.MaxPerson)
+		return basic.Within(d.Lock, 1, api.MaxLocks) && basic.IsPerson(d.Person)
 	case api.DeBack, api.DeLost:
 		return basic.Within(d.Lock, 1, api.MaxLocks) && d.Person == 0
 	}
@@ -113,7 +106,7 @@ func checkLock(lock int) api.Errno {
 }
 
 func checkPerson(person int) api.Errno {
-	return basic.Verdict(basic.Within(person, 1, api.MaxPerson), api.ErrPersons)
+	return basic.Verdict(basic.IsPerson(person), api.ErrPersons)
 }
 
 func checkPersons(l []int) api.Errno {
