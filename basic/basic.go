@@ -1,4 +1,4 @@
-// Package basic is what all layers need: sources, persons, papers, days, times, answers, and which of several errors is due.
+// Package basic is what all layers need: parishes, items, sources, persons, papers, days, times, answers, and which of several errors is due.
 package basic
 
 import (
@@ -9,6 +9,26 @@ import (
 
 // Within reports whether a number is from lo to hi.
 func Within(n, lo, hi int) bool { return lo <= n && n <= hi }
+
+// Modulo returns the number from 0 to n - 1 that differs from a by a multiple of n.
+func Modulo(a, n int) int {
+	rest := a % n
+	if rest < 0 {
+		rest += n
+	}
+	return rest
+}
+
+// IsParish reports whether a number is a parish.
+func IsParish(n int) bool { return Within(n, 0, api.MaxParishes-1) }
+
+// IsItem reports whether an item is valid.
+func IsItem(at api.Item) bool { return IsParish(at.Parish) && Within(at.No, 0, api.MaxNo) }
+
+// CompareItems orders items.
+func CompareItems(a, b api.Item) int {
+	return cmp.Or(cmp.Compare(a.Parish, b.Parish), cmp.Compare(a.No, b.No))
+}
 
 // IsSource reports whether a number is a source.
 func IsSource(n int) bool { return Within(n, 1, api.MaxSource) }

@@ -1,6 +1,8 @@
 package basic_test
 
 import (
+	"cmp"
+	"math"
 	"testing"
 
 	"parvise/api"
@@ -54,6 +56,38 @@ func TestNames(t *testing.T) {
 	for n, is := range map[int]bool{1: true, 500: true, api.MaxSource: true, 0: false, -1: false, api.MaxSource + 1: false} {
 		if basic.IsSource(n) != is {
 			t.Errorf("the source %d: expected %v", n, is)
+		}
+	}
+}
+
+func TestItems(t *testing.T) {
+	for n, is := range map[int]bool{0: true, 3: true, api.MaxParishes - 1: true, -1: false, api.MaxParishes: false} {
+		if basic.IsParish(n) != is || basic.IsItem(api.Item{Parish: n, No: 5}) != is {
+			t.Errorf("the parish %d: expected %v", n, is)
+		}
+	}
+	for n, is := range map[int]bool{0: true, 500: true, api.MaxNo: true, -1: false, api.MaxNo + 1: false} {
+		if basic.IsItem(api.Item{Parish: 2, No: n}) != is {
+			t.Errorf("the item %d: expected %v", n, is)
+		}
+	}
+	rising := []api.Item{{Parish: 0, No: 7}, {Parish: 1, No: 0}, {Parish: 1, No: 3}, {Parish: 2, No: 1}}
+	for i, a := range rising {
+		for j, b := range rising {
+			if c := basic.CompareItems(a, b); c != cmp.Compare(i, j) {
+				t.Errorf("CompareItems(%v, %v) = %d", a, b, c)
+			}
+		}
+	}
+}
+
+func TestModulo(t *testing.T) {
+	for _, c := range []struct{ a, n, want int }{
+		{0, 1, 0}, {7, 1, 0}, {-7, 1, 0}, {7, 3, 1}, {6, 3, 0}, {-1, 3, 2}, {-3, 3, 0}, {-4, 3, 2}, {2, 3, 2},
+		{math.MinInt, 2, 0}, {math.MinInt, 3, 1}, {math.MaxInt, 2, 1}, {math.MinInt + 1, 1 << 31, 1}, {-1, math.MaxInt, math.MaxInt - 1},
+	} {
+		if got := basic.Modulo(c.a, c.n); got != c.want {
+			t.Errorf("Modulo(%d, %d) = %d; expected %d", c.a, c.n, got, c.want)
 		}
 	}
 }

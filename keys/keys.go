@@ -12,7 +12,7 @@ import (
 
 // CheckDeed reports whether a deed is valid.
 func CheckDeed(d api.Deed) api.Errno {
-	return basic.Verdict(validItem(d.At) && validSubject(d) && validDays(d), api.ErrDeed)
+	return basic.Verdict(basic.IsItem(d.At) && validSubject(d) && validDays(d), api.ErrDeed)
 }
 
 // Check reports whether deeds are valid.
@@ -66,10 +66,6 @@ func Dates(l []api.Deed) ([]int, api.Errno) {
 	return basic.Dates(l, func(d api.Deed) (int, int) { return d.Known, d.Until }), api.OK
 }
 
-func validItem(at api.Item) bool {
-	return basic.Within(at.Parish, 0, api.MaxParishes-1) && basic.Within(at.No, 0, api.MaxNo)
-}
-
 // validSubject reports whether a deed names the lock and the person that its kind needs, and no other.
 func validSubject(d api.Deed) bool {
 	switch d.Kind {
@@ -88,9 +84,7 @@ func validDays(d api.Deed) bool {
 }
 
 // byItem orders deeds by their items.
-func byItem(a, b api.Deed) int {
-	return cmp.Or(cmp.Compare(a.At.Parish, b.At.Parish), cmp.Compare(a.At.No, b.At.No))
-}
+func byItem(a, b api.Deed) int { return basic.CompareItems(a.At, b.At) }
 
 // insert puts a number at its place in a rising list, unless it is there.
 func insert[N cmp.Ordered](l []N, n N) []N {
