@@ -71,3 +71,11 @@ func Phrase(word string, numbers ...int) string {
 
 // Line returns the line of a word and numbers.
 func Line(word string, numbers ...int) string { return Phrase(word, numbers...) + "\n" }
+
+// Sum returns the sum of a text, modulo a number; it begins with one that is known.
+func Sum(sum, modulo int, text string) int {
+	for _, b := range []byte(text) {
+		sum = (257*sum + int(b) + 1) % modulo
+	}
+	return sum
+}

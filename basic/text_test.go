@@ -64,3 +64,17 @@ func TestNumbers(t *testing.T) {
 		t.Errorf("Phrase = %q", phrase)
 	}
 }
+
+func TestSum(t *testing.T) {
+	for _, c := range []struct {
+		sum, modulo int
+		text        string
+		want        int
+	}{
+		{0, 9973, "", 0}, {132, 9973, "", 132}, {0, 9973, "a", 98}, {1, 9973, "a", 355}, {1, 9973, "ab", 1577}, {1, 97, "ab", 57}, {0, 1000003, "\x00\xff", 513}, {1000002, 1000003, "\n", 999757},
+	} {
+		if got := basic.Sum(c.sum, c.modulo, c.text); got != c.want {
+			t.Errorf("Sum(%d, %d, %q) = %d; expected %d", c.sum, c.modulo, c.text, got, c.want)
+		}
+	}
+}

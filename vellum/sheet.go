@@ -47,11 +47,7 @@ type number int
 
 // sum returns the sum of a text with an index on the sheet.
 func (n number) sum(index int, text string) int {
-	sum := (131*int(n) + 17*index + 1) % api.SumOf
-	for _, b := range []byte(text) {
-		sum = (257*sum + int(b) + 1) % api.SumOf
-	}
-	return sum
+	return basic.Sum((131*int(n)+17*index+1)%api.SumOf, api.SumOf, text)
 }
 
 // sums tells the sums of the texts on a sheet.
