@@ -1,6 +1,10 @@
 package basic
 
-import "slices"
+import (
+	"slices"
+
+	"parvise/api"
+)
 
 // AreAll reports whether something is so of each element of a list.
 func AreAll[T any](l []T, is func(T) bool) bool {
@@ -40,4 +44,13 @@ func Dates[T any](l []T, times func(T) (known, until int)) []int {
 		}
 	}
 	return Rising(dates...)
+}
+
+// CopyStock returns a stock that shares no memory with s.
+func CopyStock(s api.Stock) api.Stock {
+	s.Holds = slices.Clone(s.Holds)
+	for to, l := range s.Under {
+		s.Under[to] = slices.Clone(l)
+	}
+	return s
 }

@@ -2,9 +2,11 @@ package basic_test
 
 import (
 	"cmp"
+	"fmt"
 	"slices"
 	"testing"
 
+	"parvise/api"
 	"parvise/basic"
 )
 
@@ -58,5 +60,22 @@ func TestDates(t *testing.T) {
 		if got := basic.Dates(c.l, func(v [2]int) (int, int) { return v[0], v[1] }); !slices.Equal(got, c.want) {
 			t.Errorf("Dates %v = %v", c.l, got)
 		}
+	}
+}
+
+func TestCopyStock(t *testing.T) {
+	s := api.Stock{Holds: []int{3, 7}, Sent: [6]int{0, 9, 0, 0, 0, 2}, Taken: [6]int{0, 4}}
+	s.Under[1], s.Under[5] = []api.Parcel{{No: 8, Paper: 1}, {No: 9, Paper: 2}}, []api.Parcel{{No: 2, Paper: 5}}
+	before := fmt.Sprint(s)
+	copied := basic.CopyStock(s)
+	if fmt.Sprint(copied) != before {
+		t.Errorf("CopyStock of %s: %v", before, copied)
+	}
+	copied.Holds[1], copied.Under[1][0].No, copied.Under[5][0].Paper, copied.Sent[1] = 0, 0, 0, 0
+	if fmt.Sprint(s) != before {
+		t.Errorf("%s became %v", before, s)
+	}
+	if copied := basic.CopyStock(api.Stock{}); fmt.Sprint(copied) != fmt.Sprint(api.Stock{}) {
+		t.Errorf("CopyStock of nothing: %v", copied)
 	}
 }

@@ -10,9 +10,8 @@ import (
 func Spoken(text string) iter.Seq2[int, []string] {
 	return func(yield func(int, []string) bool) {
 		for i, line := range strings.Split(text, "\n") {
-			// Not strings.Fields: only spaces part words.
-			words := strings.FieldsFunc(line, func(r rune) bool { return r == ' ' })
-			if len(words) == 0 || line[0] == '#' {
+			words := Words(line)
+			if len(words) == 0 {
 				continue
 			}
 			if !yield(i+1, words) {
@@ -20,6 +19,15 @@ func Spoken(text string) iter.Seq2[int, []string] {
 			}
 		}
 	}
+}
+
+// Words returns the words of a line; none if it says nothing.
+func Words(line string) []string {
+	if strings.HasPrefix(line, "#") {
+		return nil
+	}
+	// Not strings.Fields: only spaces part words.
+	return strings.FieldsFunc(line, func(r rune) bool { return r == ' ' })
 }
 
 // Lines returns how many lines a text has.

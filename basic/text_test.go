@@ -26,6 +26,16 @@ func TestSpoken(t *testing.T) {
 	}
 }
 
+func TestWords(t *testing.T) {
+	for line, want := range map[string][]string{
+		"": nil, "  ": nil, "#": nil, "# one": nil, "one": {"one"}, " one  # ": {"one", "#"}, "one\ttwo\nthree four\r": {"one\ttwo\nthree", "four\r"}, "\xff \x00": {"\xff", "\x00"},
+	} {
+		if words := basic.Words(line); !slices.Equal(words, want) {
+			t.Errorf("Words %q = %q", line, words)
+		}
+	}
+}
+
 func TestLines(t *testing.T) {
 	for text, want := range map[string]int{"": 0, "\n": 1, "a": 1, "a\n": 1, "a\nb": 2, "\n\n": 2, "\n ": 2} {
 		if n := basic.Lines(text); n != want {

@@ -45,7 +45,7 @@ func Firm(d api.Desk) (api.Stock, api.Errno) {
 	if e := Check(d); e != api.OK {
 		return api.Stock{}, e
 	}
-	return copied(firmOf(d)), api.OK
+	return basic.CopyStock(firmOf(d)), api.OK
 }
 
 // Where returns the parishes that have a paper.
@@ -103,7 +103,7 @@ func takenBy(l []api.Desk, me, from int) int {
 
 // written returns a page on which a stock is written as the n-th one.
 func written(s api.Stock, n int) api.Page {
-	return api.Page{Count: n, Stock: copied(s), Sum: sumOf(s, n)}
+	return api.Page{Count: n, Stock: basic.CopyStock(s), Sum: sumOf(s, n)}
 }
 
 // isRight reports whether a page is right for a parish.

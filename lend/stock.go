@@ -3,7 +3,6 @@ package lend
 import (
 	"cmp"
 	"iter"
-	"slices"
 
 	"parvise/api"
 	"parvise/basic"
@@ -69,15 +68,6 @@ func isCount(n int) bool { return basic.Within(n, 0, api.MaxCount) }
 
 // sumOf returns the sum of a stock that is written as the n-th one.
 func sumOf(s api.Stock, n int) int { return basic.Sum(n%api.PageSum, api.PageSum, textOf(s)) }
-
-// copied returns a stock that shares no memory with s.
-func copied(s api.Stock) api.Stock {
-	s.Holds = slices.Clone(s.Holds)
-	for to, l := range s.Under {
-		s.Under[to] = slices.Clone(l)
-	}
-	return s
-}
 
 // parcelsOf yields the parcels of a stock, each with its parish: by the parishes, and then in order.
 func parcelsOf(s api.Stock) iter.Seq2[int, api.Parcel] {
